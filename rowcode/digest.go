@@ -1,0 +1,56 @@
+package rowcode
+
+import "lockstep/api"
+
+// The numbers of the 64-bit hash FNV-1a.
+const (
+	hashStart = 14695981039346656037
+	hashTimes = 1099511628211
+)
+
+// Hash is a number for bytes.
+func Hash(b []byte) uint64 {
+	h := uint64(hashStart)
+	for _, x := range b {
+		h = (h ^ uint64(x)) * hashTimes
+	}
+	return h
+}
+
+// Digest is a number for rows that come and go, in whatever order; the zero Digest is of none.
+type Digest struct {
+	sum  uint64
+	rows int64
+}
+
+// Add takes a row in.
+func (d *Digest) Add(r api.Row) api.Errno {
+	b, why := Row(r)
+	if why != api.OK {
+		return why
+	}
+	d.sum += Hash(b)
+	d.rows++
+	return api.OK
+}
+
+// Drop takes a row out, whether or not it was ever taken in.
+func (d *Digest) Drop(r api.Row) api.Errno {
+	b, why := Row(r)
+	if why != api.OK {
+		return why
+	}
+	d.sum -= Hash(b)
+	d.rows--
+	return api.OK
+}
+
+// Sum is the number.
+func (d *Digest) Sum() uint64 {
+	return d.sum
+}
+
+// Len is how many rows more came than went.
+func (d *Digest) Len() int64 {
+	return d.rows
+}
