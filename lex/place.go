@@ -1,6 +1,10 @@
 package lex
 
-import "lockstep/api"
+import (
+	"unicode/utf8"
+
+	"lockstep/api"
+)
 
 // place is how many bytes stand ahead, and the line and the character of that line, both from 1.
 type place struct{ at, line, col int }
@@ -12,8 +16,18 @@ func Where(s string, at int) (int, int, api.Errno) {
 	if at < 0 || at > len(s) {
 		return 0, 0, api.ErrArg
 	}
-	p := firstPlace().behind(s[:at])
+	p := firstPlace().behind(s[:beginning(s, at)])
 	return p.line, p.col, api.OK
+}
+
+// beginning is where the character begins that goes over a place, as it does not stand ahead of its own bytes; else the place itself.
+func beginning(s string, at int) int {
+	for from := max(0, at-utf8.UTFMax+1); from < at; from++ {
+		if _, size := utf8.DecodeRuneInString(s[from:]); from+size > at {
+			return from
+		}
+	}
+	return at
 }
 
 // behind is the place behind what begins at p. (A byte that is no character is ranged over as one.)
