@@ -180,6 +180,12 @@ func TestSumsAmongErrors(t *testing.T) {
 	schema, d = numbers("BIGINT", most, most, "0")
 	c = made(t, schema)
 	errs(t, c, d, "SELECT SUM(b + 0 / b) FROM t", api.ErrZero)
+	// Rows of which what they are grouped by errs are in no group: not in one with each other, nor in that of NULL.
+	schema, d = numbers("BIGINT", "0", "0", "NULL", "5")
+	c = made(t, schema)
+	errs(t, c, d, "SELECT SUM("+most+") FROM t WHERE b = 0 GROUP BY 1 / b", api.ErrZero)
+	errs(t, c, d, "SELECT SUM("+most+") FROM t WHERE a > 0 GROUP BY 1 / b", api.ErrZero)
+	errs(t, c, d, "SELECT AVG(922337203685477.0 + a) FROM t GROUP BY 1 / b, b", api.ErrOver)
 }
 
 // P13.2: sums and averages of numbers at random, held against numbers without an end.
