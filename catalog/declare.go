@@ -4,6 +4,7 @@ import (
 	"slices"
 
 	"lockstep/api"
+	"lockstep/kept"
 )
 
 // declare takes a declaration in, beside those ahead of it.
@@ -16,7 +17,7 @@ func (c *Catalog) declare(d *api.Decl) {
 }
 
 func (c *Catalog) table(d *api.Decl) api.Table {
-	t := keptTable(&d.Table)
+	t := kept.Table(&d.Table)
 	_, there := c.tables[t.Name]
 	refuse(there || namedTwice(&t), d.At, api.ErrTable)
 	refuse(t.Keys[0].Name == "", d.At, api.ErrKey)
@@ -64,7 +65,7 @@ func columnOf(t *api.Table, name string) int {
 }
 
 func (c *Catalog) proc(d *api.Decl) api.Proc {
-	p := keptProc(&d.Proc)
+	p := kept.Proc(&d.Proc)
 	_, there := c.procs[p.Name]
 	refuse(there || hasTwice(p.Params, columnName), d.At, api.ErrTable)
 	isPart := func(param api.Column) bool { return param.Name == p.Part }
