@@ -1,0 +1,36 @@
+package plan
+
+import (
+	"strings"
+
+	"lockstep/api"
+	"lockstep/parse"
+)
+
+// printer puts a text together, and notes whether there is something that has none.
+type printer struct {
+	strings.Builder
+	froms   []from
+	isWrong bool
+}
+
+// access writes a line.
+func (w *printer) access(a *api.Access) {
+	cols, can := keyColumns(w.froms, a)
+	if !can {
+		w.isWrong = true
+		return
+	}
+	f := &w.froms[a.From]
+	name := "all"
+	if a.Key >= 0 {
+		name = f.form.Keys[a.Key].Name
+	}
+	w.WriteString(f.as + " " + name)
+	eachBound(a, cols, func(col int, sign string, other *api.Expr) {
+		text, why := parse.PrintExpr(*other)
+		w.isWrong = w.isWrong || why != api.OK
+		w.WriteString(" " + f.form.Cols[col].Name + " " + sign + " " + text)
+	})
+	w.WriteString("\n")
+}
