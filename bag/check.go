@@ -4,6 +4,7 @@ import (
 	"slices"
 
 	"lockstep/api"
+	"lockstep/beside"
 	"lockstep/value"
 )
 
@@ -38,7 +39,7 @@ func check(forms []api.Table, d api.Data) api.Errno {
 // hasOdd tells whether a row has another number of values than there are columns, or a value can't be, or is of another type.
 func hasOdd(form *api.Table, rows []api.Row) bool {
 	isShort := func(r api.Row) bool { return len(r) != len(form.Cols) }
-	isOdd := func(v api.Value, c *api.Column) bool { return !isOf(v, c.Type) }
+	isOdd := func(v api.Value, c *api.Column) bool { return !beside.IsOf(v, c.Type) }
 	return slices.ContainsFunc(rows, isShort) || hasSuch(form, rows, isOdd)
 }
 

@@ -1,54 +1,44 @@
 package bag
 
-import "lockstep/api"
+import (
+	"lockstep/api"
+	"lockstep/beside"
+)
 
 // join is tables whose rows are put side by side in every way, and the conditions that these must meet.
 type join struct {
+	beside.Join
 	lists [][]api.Row
-	conds []condition // by how many of the tables they need
-	sees  sight
 }
 
 func (s *scene) join(x *api.Stmt) join {
-	j := join{conds: make([]condition, len(x.From)+1)}
+	var j join
+	var places []int
 	for i, f := range x.From {
-		place := s.place(f.Table)
-		j.lists = append(j.lists, s.data[place])
-		j.sees.widen(f.As, &s.forms[place], i)
-		if i > 0 { // that of the first one plays no part
-			// A name may be one alone here, and not any more beside the tables behind.
-			j.need(s.condition(f.On, j.sees))
-		}
+		j.lists = append(j.lists, s.data[s.Place(f.Table)])
+		places = append(places, i)
 	}
-	j.need(s.condition(x.Where, j.sees))
+	j.Join = s.Join(x, places)
 	return j
 }
 
-// need takes a condition in, each of its Parts where it can first be asked.
-func (j *join) need(c condition) {
-	for _, t := range c {
-		n := t.needs()
-		j.conds[n] = append(j.conds[n], t)
-	}
-}
-
-// isMany tells whether there are more ways than may be tried. (A product of so few tables does not wrap round.)
+// isMany tells whether there are more ways than may be tried.
 func (j *join) isMany() bool {
-	ways := int64(1)
-	for _, rows := range j.lists {
-		ways *= int64(len(rows))
+	var rows []int
+	for _, l := range j.lists {
+		rows = append(rows, len(l))
 	}
-	return ways > api.MaxTried
+	return beside.AreMany(rows)
 }
 
 // tell tells all ways to put rows behind those that stand side by side already, but for those in which the condition does not hold; and, if it errs, with which error. None is told in memory of another one.
-func (j *join) tell(rows side, why api.Errno, told func(rows side, why api.Errno)) {
+func (j *join) tell(rows beside.Rows, why api.Errno, told func(rows beside.Rows, why api.Errno)) {
 	n := len(rows)
-	holds, also := j.conds[n].holds(rows)
+	holds, also := j.Conds[n].Holds(rows)
 	if !holds && also == api.OK {
 		return
 	}
-	why = lesser(why, also)
+	why = beside.Lesser(why, also)
 	if n == len(j.lists) {
 		told(rows, why)
 		return
@@ -59,11 +49,11 @@ func (j *join) tell(rows side, why api.Errno, told func(rows side, why api.Errno
 }
 
 // held is the rows side by side for which the condition holds, or the least error of those for which it errs.
-func (j *join) held() ([]side, api.Errno) {
-	var held []side
+func (j *join) held() ([]beside.Rows, api.Errno) {
+	var held []beside.Rows
 	least := api.OK
-	j.tell(nil, api.OK, func(rows side, why api.Errno) {
-		least = lesser(least, why)
+	j.tell(nil, api.OK, func(rows beside.Rows, why api.Errno) {
+		least = beside.Lesser(least, why)
 		if least == api.OK {
 			held = append(held, rows)
 		}
