@@ -34,7 +34,7 @@ func (s *scene) next(gone ahead) api.Access {
 
 // worth is how good an access is: what counts most stands first.
 func (s *scene) worth(a *api.Access) []int {
-	isOne := a.Key >= 0 && isWhole(&s.froms[a.From].form.Keys[a.Key], len(a.Same))
+	isOne := a.Key >= 0 && isWhole(&s.froms[a.From].Form.Keys[a.Key], len(a.Same))
 	isCut := a.Low.Op != "" || a.High.Op != ""
 	return []int{number(isOne), len(a.Same), number(isCut)}
 }
@@ -57,7 +57,7 @@ func (s *scene) access(from int, gone ahead) api.Access {
 	if a.Key < 0 {
 		return a
 	}
-	cols := s.froms[from].form.Keys[a.Key].Cols
+	cols := s.froms[from].Form.Keys[a.Key].Cols
 	same := s.same(from, cols, gone)
 	for _, b := range same {
 		a.Same = append(a.Same, kept.Expr(&b.other))
@@ -77,7 +77,7 @@ func (s *scene) access(from int, gone ahead) api.Access {
 
 // key is the number of the key by which a From is come to, below 0 if there is none.
 func (s *scene) key(from int, gone ahead) int {
-	keys := s.froms[from].form.Keys
+	keys := s.froms[from].Form.Keys
 	worth := make([][]int, 0, len(keys))
 	for i := range keys {
 		n := len(s.same(from, keys[i].Cols, gone))

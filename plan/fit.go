@@ -1,6 +1,9 @@
 package plan
 
-import "lockstep/api"
+import (
+	"lockstep/api"
+	"lockstep/through"
+)
 
 // isPlan tells whether accesses come to all rows that a statement must look at.
 func (s *scene) isPlan(l []api.Access) bool {
@@ -17,11 +20,11 @@ func (s *scene) isPlan(l []api.Access) bool {
 }
 
 // keyColumns is the columns of the key by which a table is come to (of all its rows: none), and whether there are such, and as many as are asked for.
-func keyColumns(froms []from, a *api.Access) ([]int, bool) {
+func keyColumns(froms []through.From, a *api.Access) ([]int, bool) {
 	if a.From < 0 || a.From >= len(froms) {
 		return nil, false
 	}
-	keys := froms[a.From].form.Keys
+	keys := froms[a.From].Form.Keys
 	if a.Key < -1 || a.Key >= len(keys) {
 		return nil, false
 	}

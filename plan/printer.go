@@ -5,12 +5,13 @@ import (
 
 	"lockstep/api"
 	"lockstep/parse"
+	"lockstep/through"
 )
 
 // printer puts a text together, and notes whether there is something that has none.
 type printer struct {
 	strings.Builder
-	froms   []from
+	froms   []through.From
 	isWrong bool
 }
 
@@ -24,13 +25,13 @@ func (w *printer) access(a *api.Access) {
 	f := &w.froms[a.From]
 	name := "all"
 	if a.Key >= 0 {
-		name = f.form.Keys[a.Key].Name
+		name = f.Form.Keys[a.Key].Name
 	}
-	w.WriteString(f.as + " " + name)
+	w.WriteString(f.As + " " + name)
 	eachBound(a, cols, func(col int, sign string, other *api.Expr) {
 		text, why := parse.PrintExpr(*other)
 		w.isWrong = w.isWrong || why != api.OK
-		w.WriteString(" " + f.form.Cols[col].Name + " " + sign + " " + text)
+		w.WriteString(" " + f.Form.Cols[col].Name + " " + sign + " " + text)
 	})
 	w.WriteString("\n")
 }
