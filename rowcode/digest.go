@@ -1,20 +1,13 @@
 package rowcode
 
-import "lockstep/api"
-
-// The numbers of the 64-bit hash FNV-1a.
-const (
-	hashStart = 14695981039346656037
-	hashTimes = 1099511628211
+import (
+	"lockstep/api"
+	"lockstep/hash"
 )
 
 // Hash is a number for bytes.
 func Hash(b []byte) uint64 {
-	h := uint64(hashStart)
-	for _, x := range b {
-		h = (h ^ uint64(x)) * hashTimes
-	}
-	return h
+	return hash.On(hash.Start, b...)
 }
 
 // Digest is a number for rows that come and go, in whatever order; the zero Digest is of none.
