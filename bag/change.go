@@ -5,6 +5,7 @@ import (
 
 	"lockstep/api"
 	"lockstep/beside"
+	"lockstep/kept"
 )
 
 // change is what a statement that is no SELECT answers, and the tables behind it.
@@ -19,7 +20,7 @@ func (s *scene) change(x *api.Stmt) ([]api.Row, api.Data, api.Errno) {
 	}
 	behind := slices.Clone(s.data)
 	behind[place] = rows
-	return []api.Row{{bigint(many)}}, copied(behind), api.OK
+	return []api.Row{{bigint(many)}}, kept.Data(behind), api.OK
 }
 
 // changed is the rows of a table behind a statement, whether they may be or not, and how many it was about.

@@ -1,10 +1,7 @@
-// Package kept is declarations and statements as they are kept and told: in memory of their own, without what plays no part, as they would be read again of what is printed of them, but for places.
+// Package kept is declarations, statements and rows as they are kept and told: in memory of their own, without what plays no part; the former two as they would be read again of what is printed of them, but for places.
 package kept
 
-import (
-	"lockstep/api"
-	"lockstep/value"
-)
+import "lockstep/api"
 
 // list is a list of what is kept of each.
 func list[T any](l []T, kept func(x *T) T) []T {
@@ -129,8 +126,7 @@ func Expr(e *api.Expr) api.Expr {
 	k := api.Expr{Op: e.Op, Parts: list(e.Parts, Expr), At: e.At}
 	switch e.Op {
 	case "value":
-		// Cast to the type that it has already, a value loses what that does not name; NULL has none, but is NULL as any.
-		k.Value, _ = value.Cast(e.Value, max(e.Value.Type, api.BigInt))
+		k.Value = Value(e.Value)
 	case "column":
 		k.Name, k.Of = e.Name, e.Of
 	case "param":

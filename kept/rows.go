@@ -1,18 +1,18 @@
-package bag
+package kept
 
 import "lockstep/api"
 
-// copied is the same tables in memory of their own, without what values' types do not name.
-func copied(d api.Data) api.Data {
+// Data is tables' rows.
+func Data(d api.Data) api.Data {
 	out := make(api.Data, 0, len(d))
 	for _, rows := range d {
-		out = append(out, copiedRows(rows))
+		out = append(out, Rows(rows))
 	}
 	return out
 }
 
-// copiedRows cuts all rows out of one block, each with no room behind it, so that none reaches into another one.
-func copiedRows(rows []api.Row) []api.Row {
+// Rows cuts all rows out of one block, each with no room behind it, so that none reaches into another one.
+func Rows(rows []api.Row) []api.Row {
 	size := 0
 	for _, r := range rows {
 		size += len(r)
@@ -22,15 +22,15 @@ func copiedRows(rows []api.Row) []api.Row {
 	for _, r := range rows {
 		begin := len(block)
 		for _, v := range r {
-			block = append(block, onlyNamed(v))
+			block = append(block, Value(v))
 		}
 		out = append(out, block[begin:len(block):len(block)])
 	}
 	return out
 }
 
-// onlyNamed is a value without what its type does not name. (Of a type that is none, all that it holds plays a part.)
-func onlyNamed(v api.Value) api.Value {
+// Value is a value without what its type does not name. (Of a type that is none, all that it holds plays a part.)
+func Value(v api.Value) api.Value {
 	switch v.Type {
 	case api.Null:
 		return api.Value{}
